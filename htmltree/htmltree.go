@@ -6,16 +6,17 @@ import (
 	"slices"
 
 	"htmltree/api"
+	"htmltree/build"
 )
 
 // Parser is a text that is written, and behind Close its tree. (A nil one, as New hands out beside an error, is as one that is closed and tells nothing.)
 type Parser struct {
-	attrs  int    // how many attributes a tag may have
+	limits build.Limits
 	text   []byte // what was written, until it is read
 	closed bool
 	end    int   // where the reading ended
 	err    error // what Close said
-	spans  []api.Span
+	told         // nothing, unless Close said nil
 }
 
 // New makes a parser (P3).
@@ -23,7 +24,7 @@ func New(depth int, forms int, attrs int) (*Parser, error) {
 	if depth < api.MinDepth || depth > api.MaxDepth || forms < 1 || forms > api.MaxForm || attrs < 1 || attrs > api.MaxAttr {
 		return nil, api.ErrLimit
 	}
-	return &Parser{attrs: attrs}, nil
+	return &Parser{limits: build.Limits{Depth: depth, Attrs: attrs}}, nil
 }
 
 // Write: the text goes on with b (P3).
@@ -43,8 +44,8 @@ func (p *Parser) Close() error {
 	if p.isClosed() {
 		return api.ErrDone
 	}
-	spans, stop := read(p.text, p.attrs)
-	p.closed, p.end, p.spans = true, len(p.text), spans
+	all, stop := read(p.text, p.limits)
+	p.closed, p.end, p.told = true, len(p.text), all
 	if stop != nil {
 		p.end, p.err = stop.At, stop
 	}
@@ -96,15 +97,34 @@ func (p *Parser) Trail() []api.Span {
 }
 
 // Items walks through the tree (P27).
-func (p *Parser) Items() func(yield func(api.Item) bool) {
-	return func(yield func(api.Item) bool) {}
+func (p *Parser) Items() func(yield func(api.Item) bool) { return p.walk }
+
+// walk begins anew each time; what there is to walk through is asked then.
+func (p *Parser) walk(yield func(api.Item) bool) {
+	if p.hasTree() {
+		p.doc.Items(yield)
+	}
 }
 
+// hasTree: Close said nil.
+func (p *Parser) hasTree() bool { return p != nil && p.doc != nil }
+
 // List tells the items, one behind the other (P27).
-func (p *Parser) List() []api.Item { return nil }
+func (p *Parser) List() []api.Item {
+	var l []api.Item
+	for x := range p.Items() {
+		l = append(l, x)
+	}
+	return l
+}
 
 // Text writes the tree (P28).
-func (p *Parser) Text() string { return "" }
+func (p *Parser) Text() string {
+	if !p.hasTree() {
+		return ""
+	}
+	return p.doc.Written()
+}
 
 // Visit tells a visitor what is met (P29).
 func (p *Parser) Visit(v api.Visitor) {}

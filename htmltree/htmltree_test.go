@@ -105,8 +105,10 @@ func TestP1AllShortTexts(t *testing.T) {
 		texts(pieces, n, func(s string) { readBoth(t, s) })
 	}
 	for a := range 256 {
-		for b := range 256 {
-			readBoth(t, string([]byte{byte(a), byte(b)}))
+		for _, s := range []string{"", "a", "<", "<p", "<p ", "<p a", "</", "<!", "<!--", "<!doctype ", "&", "&#", "<title>", "<style></"} {
+			readBoth(t, s+string([]byte{byte(a)}))
+			readBoth(t, s+string([]byte{byte(a), byte(255 - a)}))
+			readBoth(t, string([]byte{byte(a)})+s)
 		}
 	}
 }

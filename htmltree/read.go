@@ -2,25 +2,36 @@ package htmltree
 
 import (
 	"htmltree/api"
+	"htmltree/build"
 	"htmltree/token"
+	"htmltree/tree"
 )
 
-// read reads a text as tokens: what its bytes were. A limit that is met is thrown from deep within, and caught here.
-func read(text []byte, attrs int) (spans []api.Span, stop *api.Stop) {
+// told is what a text was found to be.
+type told struct {
+	spans []api.Span
+	doc   *tree.Element
+}
+
+// read reads a text: its tokens, and of these the tree. A limit that is met is thrown from deep within, and caught here.
+func read(text []byte, limits build.Limits) (all told, stop *api.Stop) {
 	defer func() {
 		if thrown := recover(); thrown != nil {
-			spans, stop = nil, limitOf(thrown)
+			all, stop = told{}, limitOf(thrown)
 		}
 	}()
-	r := token.NewReader(text, attrs)
+	r := token.NewReader(text, limits.Attrs)
+	b := build.New(limits, r.AsText)
 	for {
 		t := r.Next()
+		b.Take(t)
 		kind := kindOf(t)
 		if kind == 0 {
-			return spans, nil
+			all.doc = b.Document()
+			return all, nil
 		}
 		from, to := t.Bytes()
-		spans = addSpan(spans, api.Span{Kind: kind, From: from, To: to})
+		all.spans = addSpan(all.spans, api.Span{Kind: kind, From: from, To: to})
 	}
 }
 

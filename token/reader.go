@@ -15,6 +15,8 @@ type Reader struct {
 	pos   int        // the first character that is not read yet
 	attrs int        // how many attributes a tag may have
 	names refs.Names // the references
+	of    string     // the name of the element whose text is being read; "": the text is data
+	plain bool       // no references are read in that text
 }
 
 // NewReader makes a reader that is at the beginning of a text.
@@ -24,16 +26,53 @@ func NewReader(text []byte, attrs int) *Reader {
 	return r
 }
 
+// AsText: what comes is the text of an element of that name, up to its end tag (P10); plain: without references.
+func (r *Reader) AsText(of string, plain bool) { r.of, r.plain = of, plain }
+
 // Next reads one token; when none is left, the text's end, ever again. It panics with an *api.Stop where a tag has too many attributes.
 func (r *Reader) Next() Token {
 	r.begin = r.pos
 	switch {
 	case r.atEnd():
 		return TextEnd{r.place()}
+	case r.inText():
+		return r.textChar()
 	case r.take("<"):
 		return r.behindLess()
 	}
 	return r.char()
+}
+
+// inText: here an element's text goes on. At its end tag the text is data again.
+func (r *Reader) inText() bool {
+	if r.of != "" && r.isEndTagNext(r.of) {
+		r.of = ""
+	}
+	return r.of != ""
+}
+
+// isEndTagNext: an end tag of the name, which has small letters, begins here.
+func (r *Reader) isEndTagNext(name string) bool {
+	s, ok := strings.CutPrefix(r.rest(), "</")
+	n := len(name)
+	return ok && len(s) > n && chars.Small(s[:n]) == name && chars.OneOf(chars.Blanks+"/>")(s[n])
+}
+
+// textChar reads a character of an element's text.
+func (r *Reader) textChar() Token {
+	read := r.char
+	if r.plain {
+		read = r.bareChar
+	}
+	c := read()
+	c.Text = chars.NoNul(c.Text)
+	return c
+}
+
+// bareChar reads a character, whichever.
+func (r *Reader) bareChar() Char {
+	r.pos = r.begin + 1
+	return Char{r.place(), r.text[r.begin:r.pos]}
 }
 
 // behindLess reads what begins with "<".
@@ -67,13 +106,12 @@ func (r *Reader) behindSlash() Token {
 }
 
 // char reads a character, or a reference; whatever else was tried ahead of it.
-func (r *Reader) char() Token {
-	r.pos = r.begin
-	text, size := r.names.Read(r.rest(), false)
+func (r *Reader) char() Char {
+	text, size := r.names.Read(r.text[r.begin:], false)
 	if size == 0 {
-		text, size = r.rest()[:1], 1
+		return r.bareChar()
 	}
-	r.pos += size
+	r.pos = r.begin + size
 	return Char{r.place(), text}
 }
 

@@ -255,6 +255,80 @@ func TestPlaces(t *testing.T) {
 	}
 }
 
+// readText tells the tokens of a text that is an element's from its beginning, without their bytes, characters put together.
+func readText(text, of string, plain bool) []string {
+	r := NewReader([]byte(text), 16)
+	r.AsText(of, plain)
+	var l []string
+	chars := false
+	for {
+		t := r.Next()
+		switch t := t.(type) {
+		case TextEnd:
+			return l
+		case Char:
+			if chars {
+				l[len(l)-1] += t.Text
+				continue
+			}
+		}
+		_, chars = t.(Char)
+		l = append(l, showKind(t))
+	}
+}
+
+func TestTextOfElements(t *testing.T) {
+	for _, c := range []struct {
+		text string
+		want []string
+	}{
+		{"", nil},
+		{"a<b></c><!--d--><!doctype e></>", []string{"char a<b></c><!--d--><!doctype e></>"}},
+		{"a</title>b", []string{"char a", "end title", "char b"}},
+		{"</title>", []string{"end title"}},
+		{"</TiTlE\n>", []string{"end title"}},
+		{"</title\t>", []string{"end title"}},
+		{"</title\f>", []string{"end title"}},
+		{"</title\r>", []string{"end title"}},
+		{"</title >", []string{"end title"}},
+		{"</title/>", []string{"end title"}},
+		{"</title a='>'>b", []string{"end title|a=>", "char b"}},
+		{"</title", []string{"char </title"}},
+		{"</titl", []string{"char </titl"}},
+		{"</", []string{"char </"}},
+		{"<", []string{"char <"}},
+		{"</titles>", []string{"char </titles>"}},
+		{"</title\x00>", []string{"char </title\uFFFD>"}},
+		{"</title\v>", []string{"char </title\v>"}},
+		{"< /title>", []string{"char < /title>"}},
+		{"</ title>", []string{"char </ title>"}},
+		{"<title>", []string{"char <title>"}},
+		{"</style></textarea>", []string{"char </style></textarea>"}},
+		{"</</title>", []string{"char </", "end title"}},
+		{"</title </title>", []string{"end title|<=|title="}},
+		{"a</title ", []string{"char a", "lost"}},
+		{"a</title/b='", []string{"char a", "lost"}},
+		{"a</title><b></title>&lt;\x00", []string{"char a", "end title", "start b", "end title", "char <\x00"}},
+		{"\x00a\r\nb\xff", []string{"char \uFFFDa\nb\xff"}},
+	} {
+		for _, plain := range []bool{false, true} {
+			if got := readText(c.text, "title", plain); strings.Join(got, "\n") != strings.Join(c.want, "\n") {
+				t.Errorf("P10: %q is %q, want %q (plain: %v)", c.text, got, c.want, plain)
+			}
+		}
+	}
+}
+
+func TestReferencesInTextOfElements(t *testing.T) {
+	const text = "&lt;&#65;&notin;&ampx&#0;&x;&"
+	if got := readText(text+"</style>"+text, "textarea", false); strings.Join(got, "\n") != "char <A\u2209&x\uFFFD&x;&</style><A\u2209&x\uFFFD&x;&" {
+		t.Errorf("P10: %q", got)
+	}
+	if got := readText(text+"</style>&lt;", "style", true); strings.Join(got, "\n") != "char "+text+"\nend style\nchar <" {
+		t.Errorf("P10: %q", got)
+	}
+}
+
 // limited reads all tokens; what was thrown.
 func limited(text string, attrs int) (stop *api.Stop) {
 	defer func() {

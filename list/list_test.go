@@ -1,0 +1,93 @@
+package list
+
+import (
+	"slices"
+	"testing"
+)
+
+// of makes a list.
+func of(entries ...string) *List[string] {
+	l := &List[string]{}
+	for _, x := range entries {
+		l.Push(x)
+	}
+	return l
+}
+
+// check holds a list against its entries, gone over both ways.
+func check(t *testing.T, l *List[string], want ...string) {
+	t.Helper()
+	var got []string
+	for n := range l.Len() {
+		got = append(got, l.At(n))
+	}
+	up := slices.Collect(l.Up())
+	slices.Reverse(up)
+	if !slices.Equal(got, want) || !slices.Equal(up, want) {
+		t.Errorf("the list is %q, from its end up %q, want %q", got, up, want)
+	}
+}
+
+func TestPushAndPop(t *testing.T) {
+	l := of()
+	check(t, l)
+	for _, x := range []string{"a", "b", "c"} {
+		l.Push(x)
+		if l.Last() != x {
+			t.Errorf("Last = %q, want %q", l.Last(), x)
+		}
+	}
+	check(t, l, "a", "b", "c")
+	for _, want := range []string{"c", "b", "a", "", ""} {
+		if x := l.Pop(); x != want {
+			t.Errorf("Pop = %q, want %q", x, want)
+		}
+	}
+	check(t, l)
+	l.Push("d")
+	check(t, l, "d")
+}
+
+func TestWhatIsNotThere(t *testing.T) {
+	if x := of().Last(); x != "" {
+		t.Errorf("Last of nothing = %q", x)
+	}
+	for _, n := range []int{-1, 2, 100} {
+		if x := of("a", "b").At(n); x != "" {
+			t.Errorf("At(%d) = %q", n, x)
+		}
+	}
+}
+
+func TestRemove(t *testing.T) {
+	l := of("a", "b", "c", "d")
+	l.Remove("c")
+	check(t, l, "a", "b", "d")
+	l.Remove("nowhere")
+	check(t, l, "a", "b", "d")
+	l.Remove("a")
+	check(t, l, "b", "d")
+	l.Remove("d")
+	check(t, l, "b")
+	l.Remove("b")
+	l.Remove("b")
+	check(t, l)
+}
+
+func TestUpEndsWhenItIsTold(t *testing.T) {
+	l := of("a", "b", "c")
+	for want := 1; want <= 3; want++ {
+		n := 0
+		for x := range l.Up() {
+			n++
+			if n == want {
+				l.Remove(x) // what is gone over may be changed where it is left
+				break
+			}
+		}
+		if n != want {
+			t.Errorf("%d were gone over, want %d", n, want)
+		}
+		l.Push("d")
+	}
+}
