@@ -10,18 +10,19 @@ import (
 
 func (b *Builder) inBodyRules() rules {
 	return rules{
-		char:       b.insertCharInBody,
+		char:       b.charInBody,
 		comment:    b.commentAt(b.place),
 		start:      b.startTagsInBody(),
-		otherStart: b.insertTag,
+		otherStart: b.startOther,
 		end:        b.endTagsInBody(),
 		otherEnd:   b.endOther,
 		others:     nothing,
 	}
 }
 
-func (b *Builder) insertCharInBody(t token.Token) {
-	if charsOf(t) != "\x00" {
+func (b *Builder) charInBody(t token.Token) {
+	if !isNul(t) {
+		b.reconstruct()
 		b.insertChar(t)
 	}
 }
@@ -43,7 +44,22 @@ func (b *Builder) startTagsInBody() byName {
 		on("table", b.startTable).
 		on("textarea", b.startTextarea).
 		on("option optgroup", b.startOption).
-		on("br img input", b.insertVoid)
+		on("select", b.startSelect).
+		on("br img input", b.startVoid).
+		on("a", b.startLink).
+		on("b i", b.startFormatting).
+		on("nobr", b.startNobr).
+		on("object", b.startObject)
+}
+
+func (b *Builder) startOther(t token.Token) {
+	b.reconstruct()
+	b.insertTag(t)
+}
+
+func (b *Builder) startVoid(t token.Token) {
+	b.reconstruct()
+	b.insertVoid(t)
 }
 
 func (b *Builder) giveHTML(t token.Token) { b.give(b.open.At(0), t) }
@@ -95,7 +111,7 @@ func (b *Builder) startItem(items ...string) rule {
 
 func (b *Builder) startButton(t token.Token) {
 	b.close(names.Is("button"), b.bounds)
-	b.insertTag(t)
+	b.startOther(t)
 }
 
 func (b *Builder) startTable(t token.Token) {
@@ -103,6 +119,7 @@ func (b *Builder) startTable(t token.Token) {
 		b.closeP()
 	}
 	b.insertTag(t)
+	b.mode = inTable
 }
 
 func (b *Builder) startTextarea(t token.Token) {
@@ -112,7 +129,7 @@ func (b *Builder) startTextarea(t token.Token) {
 
 func (b *Builder) startOption(t token.Token) {
 	b.popIf(names.Is("option"))
-	b.insertTag(t)
+	b.startOther(t)
 }
 
 func (b *Builder) endTagsInBody() byName {
@@ -124,7 +141,9 @@ func (b *Builder) endTagsInBody() byName {
 		on("li", b.endItem).
 		on("p", b.endP).
 		on("br", b.endBreak).
-		on("form", b.endForm)
+		on("form", b.endForm).
+		on("a b i nobr", b.endFormatting).
+		on("object", ends(b.endObject))
 }
 
 func (b *Builder) endBody(token.Token) {
@@ -148,13 +167,14 @@ func (b *Builder) endItem(token.Token) { b.close(names.Is("li"), b.itemBounds())
 
 func (b *Builder) endP(token.Token) {
 	if !b.inScope(names.Is("p"), b.buttonBounds()) {
-		b.insert("p", nil)
+		b.insertNamed("p")
 	}
 	b.closeP()
 }
 
 func (b *Builder) endBreak(token.Token) {
-	b.insert("br", nil)
+	b.reconstruct()
+	b.insertNamed("br")
 	b.open.Pop()
 }
 
@@ -168,7 +188,9 @@ func (b *Builder) endForm(token.Token) {
 	}
 }
 
-func (b *Builder) endOther(t token.Token) { b.close(names.Is(tagOf(t).Name), b.special) }
+func (b *Builder) endOther(t token.Token) { b.endNamed(tagOf(t).Name) }
+
+func (b *Builder) endNamed(name string) { b.close(names.Is(name), b.special) }
 
 func (b *Builder) afterBodyRules() rules {
 	r := b.behindBodyRules(b.endOfHTML)

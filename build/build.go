@@ -1,4 +1,4 @@
-// Package build: tokens become a tree, by the rules of the modes (P11 to P16).
+// Package build: tokens become a tree, by the rules of the modes (P11 to P24).
 package build
 
 import (
@@ -9,8 +9,8 @@ import (
 	"htmltree/tree"
 )
 
-// Limits: how many elements may be open, how many attributes an element may be given.
-type Limits struct{ Depth, Attrs int }
+// Limits: how many elements may be open, how many entries the active list may have, how many attributes an element may be given.
+type Limits struct{ Depth, Forms, Attrs int }
 
 // Builder takes the tokens of a text, one behind the other.
 type Builder struct {
@@ -20,15 +20,18 @@ type Builder struct {
 
 	special, implied, bounds names.Ask
 
-	doc    *tree.Element
-	open   list.List[*tree.Element]
-	head   *tree.Element
-	form   *tree.Element // nil: FORM is none
-	mode   mode
-	kept   mode // the mode that was kept in mind
-	quirks bool
-	at     int  // where the token at work begins
-	behind bool // the token at work is the first behind <pre> or <textarea>
+	doc       *tree.Element
+	open      list.List[*tree.Element]
+	active    list.List[*tree.Element] // formatting elements; nil is a marker
+	head      *tree.Element
+	form      *tree.Element // nil: FORM is none
+	mode      mode
+	kept      mode          // the mode that was kept in mind
+	waiting   []token.Token // the characters that were kept in mind
+	fostering bool
+	quirks    bool
+	at        int  // where the token at work begins
+	behind    bool // the token at work is the first behind <pre> or <textarea>
 }
 
 // New makes a builder of an empty document. asText is called where the text of an element begins that is read otherwise than data (P10).
@@ -37,15 +40,24 @@ func New(limits Limits, asText func(of string, plain bool)) *Builder {
 	b := &Builder{limits: limits, asText: asText, doc: &tree.Element{}}
 	b.special, b.implied, b.bounds = c.Are(names.Special), c.Are(names.Implied), c.Are(names.Bounds)
 	b.rules = [modes]rules{
-		initial:        b.initialRules(),
-		beforeHTML:     b.beforeHTMLRules(),
-		beforeHead:     b.beforeHeadRules(),
-		inHead:         b.inHeadRules(),
-		afterHead:      b.afterHeadRules(),
-		inText:         b.inTextRules(),
-		inBody:         b.inBodyRules(),
-		afterBody:      b.afterBodyRules(),
-		afterAfterBody: b.afterAfterBodyRules(),
+		initial:         b.initialRules(),
+		beforeHTML:      b.beforeHTMLRules(),
+		beforeHead:      b.beforeHeadRules(),
+		inHead:          b.inHeadRules(),
+		afterHead:       b.afterHeadRules(),
+		inText:          b.inTextRules(),
+		inBody:          b.inBodyRules(),
+		inTable:         b.inTableRules(),
+		inTableText:     b.inTableTextRules(),
+		inCaption:       b.inCaptionRules(),
+		inColumnGroup:   b.inColumnGroupRules(),
+		inTableBody:     b.inTableBodyRules(),
+		inRow:           b.inRowRules(),
+		inCell:          b.inCellRules(),
+		inSelect:        b.inSelectRules(),
+		inSelectInTable: b.inSelectInTableRules(),
+		afterBody:       b.afterBodyRules(),
+		afterAfterBody:  b.afterAfterBodyRules(),
 	}
 	return b
 }
@@ -81,20 +93,19 @@ func (b *Builder) asIn(m mode) rule {
 // stop throws a limit that was passed.
 func (b *Builder) stop(e api.Errno) { panic(&api.Stop{Err: e, At: b.at}) }
 
-// place is the place for the current element.
-func (b *Builder) place() tree.Place { return b.open.Last().End() }
-
 // insert inserts an element.
-func (b *Builder) insert(name string, attrs []api.Attribute) {
-	e := &tree.Element{Name: name, Attrs: attrs}
+func (b *Builder) insert(e *tree.Element) {
 	b.place().Put(e)
 	b.push(e)
 }
 
+// insertNamed inserts an element without attributes.
+func (b *Builder) insertNamed(name string) { b.insert(&tree.Element{Name: name}) }
+
 // insertTag inserts the element of a start tag.
 func (b *Builder) insertTag(t token.Token) {
 	tag := tagOf(t)
-	b.insert(tag.Name, tag.Attrs)
+	b.insert(&tree.Element{Name: tag.Name, Attrs: tag.Attrs})
 }
 
 // insertVoid inserts the element of a start tag, and pops it.

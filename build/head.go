@@ -77,8 +77,8 @@ func (b *Builder) impliedHead(t token.Token) {
 }
 
 func (b *Builder) openHead(attrs []api.Attribute) {
-	b.insert("head", attrs)
-	b.head = b.open.Last()
+	b.head = &tree.Element{Name: "head", Attrs: attrs}
+	b.insert(b.head)
 	b.mode = inHead
 }
 
@@ -131,7 +131,7 @@ func (b *Builder) startBody(t token.Token) {
 }
 
 func (b *Builder) impliedBody(t token.Token) {
-	b.insert("body", nil)
+	b.insertNamed("body")
 	b.mode = inBody
 	b.take(t)
 }

@@ -36,6 +36,14 @@ func (b *Builder) upTo(such names.Ask) {
 	}
 }
 
+// clearTo pops elements until such a one, or html, is current.
+func (b *Builder) clearTo(such names.Ask) {
+	stays := such.Or(names.Is("html"))
+	for b.open.Len() > 0 && !b.current(stays) {
+		b.open.Pop()
+	}
+}
+
 // impliedEnds pops elements that need no end tag.
 func (b *Builder) impliedEnds() {
 	for b.current(b.implied) {
@@ -69,16 +77,20 @@ func (b *Builder) isInScope(it *tree.Element) bool {
 	return false
 }
 
-// close: if such an element is in the scope that has these bounds, elements are popped up to it.
-func (b *Builder) close(such, bounds names.Ask) {
-	if b.inScope(such, bounds) {
-		b.upTo(such)
+// close: if such an element is in the scope that has these bounds, elements are popped up to it. It tells whether one was.
+func (b *Builder) close(such, bounds names.Ask) bool {
+	if !b.inScope(such, bounds) {
+		return false
 	}
+	b.upTo(such)
+	return true
 }
 
 func (b *Builder) buttonBounds() names.Ask { return b.bounds.Or(names.Is("button")) }
 
 func (b *Builder) itemBounds() names.Ask { return b.bounds.Or(names.Is("ul")) }
+
+func tableBounds() names.Ask { return names.Is("html", "table") }
 
 // closeP: a p is closed.
 func (b *Builder) closeP() { b.close(names.Is("p"), b.buttonBounds()) }

@@ -4,6 +4,7 @@ import (
 	"strings"
 
 	"htmltree/chars"
+	"htmltree/names"
 	"htmltree/token"
 )
 
@@ -18,6 +19,15 @@ const (
 	afterHead
 	inText
 	inBody
+	inTable
+	inTableText
+	inCaption
+	inColumnGroup
+	inTableBody
+	inRow
+	inCell
+	inSelect
+	inSelectInTable
 	afterBody
 	afterAfterBody
 	modes // how many there are
@@ -77,6 +87,32 @@ func firstOf(some ...rule) rule {
 
 // nothing: the token is passed over.
 func nothing(token.Token) {}
+
+// ends makes the rule that something ends, if it can.
+func ends(what func() bool) rule {
+	return func(token.Token) { what() }
+}
+
+// endsAhead makes the rule that something ends ahead of the token, which is taken again if it did.
+func (b *Builder) endsAhead(what func() bool) rule {
+	return func(t token.Token) {
+		if what() {
+			b.take(t)
+		}
+	}
+}
+
+// ifInTable makes the rule that tags whose name is in table scope are taken by a rule, and others passed over.
+func (b *Builder) ifInTable(do rule) rule {
+	return func(t token.Token) {
+		if b.inScope(names.Is(tagOf(t).Name), tableBounds()) {
+			do(t)
+		}
+	}
+}
+
+// isNul: what a token stands for is NUL.
+func isNul(t token.Token) bool { return charsOf(t) == "\x00" }
 
 // isBlank: what a character token stands for is a blank.
 func isBlank(s string) bool { return len(s) == 1 && strings.Contains(chars.Blanks, s) }

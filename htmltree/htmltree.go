@@ -24,7 +24,7 @@ func New(depth int, forms int, attrs int) (*Parser, error) {
 	if depth < api.MinDepth || depth > api.MaxDepth || forms < 1 || forms > api.MaxForm || attrs < 1 || attrs > api.MaxAttr {
 		return nil, api.ErrLimit
 	}
-	return &Parser{limits: build.Limits{Depth: depth, Attrs: attrs}}, nil
+	return &Parser{limits: build.Limits{Depth: depth, Forms: forms, Attrs: attrs}}, nil
 }
 
 // Write: the text goes on with b (P3).

@@ -647,3 +647,48 @@ func TestP1AllShortTrees(t *testing.T) {
 		texts(pieces, n, func(s string) { wholeTree(t, s, closed(t, s).List()) })
 	}
 }
+
+// pieces are tags of all the elements that the document names, and more.
+func pieces() []string {
+	l := []string{"x", " ", "\n", "\x00", "<!---->", "<!doctype html>", "</>", "<b c>", "<input type=hidden>"}
+	for _, name := range strings.Fields("a b i nobr object table caption colgroup col tbody tfoot thead tr td th select option optgroup input textarea style title " +
+		"html head body p div h1 ul li dl dd pre form button br hr span") {
+		l = append(l, "<"+name+">", "</"+name+">")
+	}
+	return l
+}
+
+func TestP1AllPairsInTables(t *testing.T) {
+	for _, first := range []string{"<table>", "<table><tbody>", "<table><tr>", "<table><td>", "<table><caption>", "<table><colgroup>", "<select>", "<table><select>", "<b><p>", "<p><a><i>", "<object><b>"} {
+		texts(pieces(), 2, func(s string) { wholeTree(t, first+s, closed(t, first+s).List()) })
+	}
+}
+
+// Long texts of pieces that stand in no order, under all limits.
+func TestP1LongTrees(t *testing.T) {
+	l := pieces()
+	n := uint32(1)
+	next := func(below int) int {
+		n = n*1664525 + 1013904223
+		return int(n>>8) % below
+	}
+	stopped := 0
+	for range 4000 {
+		text := ""
+		for range next(150) {
+			text += l[next(len(l))]
+		}
+		p, _ := htmltree.New(4+next(61), 1+next(32), 16)
+		p.Write([]byte(text))
+		if p.Close() != nil {
+			stopped++
+			tellsNothing(t, p)
+			continue
+		}
+		wholeTree(t, text, p.List())
+		wholeTrail(t, text, p.Trail())
+	}
+	if stopped == 0 || stopped == 4000 {
+		t.Errorf("%d of 4000 texts passed a limit", stopped)
+	}
+}

@@ -24,6 +24,9 @@ func (l *List[T]) At(n int) T {
 // Last tells the last entry.
 func (l *List[T]) Last() T { return l.At(len(l.entries) - 1) }
 
+// Has: x is an entry.
+func (l *List[T]) Has(x T) bool { return slices.Contains(l.entries, x) }
+
 // Push puts an entry last.
 func (l *List[T]) Push(x T) { l.entries = append(l.entries, x) }
 
@@ -34,6 +37,15 @@ func (l *List[T]) Pop() T {
 	return x
 }
 
+// PopTo takes the last entry out, until x has been taken out, or none is left.
+func (l *List[T]) PopTo(x T) {
+	for len(l.entries) > 0 {
+		if l.Pop() == x {
+			return
+		}
+	}
+}
+
 // Remove takes an entry out, wherever it is.
 func (l *List[T]) Remove(x T) {
 	if n := slices.Index(l.entries, x); n >= 0 {
@@ -41,11 +53,30 @@ func (l *List[T]) Remove(x T) {
 	}
 }
 
-// Up goes over the entries from the last to the first.
-func (l *List[T]) Up() iter.Seq[T] {
+// Replace: y takes the place of the entry x.
+func (l *List[T]) Replace(x, y T) {
+	if n := slices.Index(l.entries, x); n >= 0 {
+		l.entries[n] = y
+	}
+}
+
+// PutBehind puts y in right behind the entry x.
+func (l *List[T]) PutBehind(x, y T) {
+	if n := slices.Index(l.entries, x); n >= 0 {
+		l.entries = slices.Insert(l.entries, n+1, y)
+	}
+}
+
+// Up goes over the entries from the last to the first. (The one that is gone over may be taken out or replaced.)
+func (l *List[T]) Up() iter.Seq[T] { return l.upFrom(len(l.entries)) }
+
+// Ahead goes likewise over the entries ahead of x.
+func (l *List[T]) Ahead(x T) iter.Seq[T] { return l.upFrom(slices.Index(l.entries, x)) }
+
+func (l *List[T]) upFrom(n int) iter.Seq[T] {
 	return func(yield func(T) bool) {
-		for n := len(l.entries) - 1; n >= 0; n-- {
-			if !yield(l.At(n)) {
+		for at := n - 1; at >= 0; at-- {
+			if !yield(l.At(at)) {
 				return
 			}
 		}

@@ -74,6 +74,68 @@ func TestRemove(t *testing.T) {
 	check(t, l)
 }
 
+func TestHas(t *testing.T) {
+	l := of("a", "b")
+	if !l.Has("a") || !l.Has("b") || l.Has("c") || l.Has("") || of().Has("") {
+		t.Errorf("Has is wrong")
+	}
+}
+
+func TestPopTo(t *testing.T) {
+	l := of("a", "b", "c", "b", "d")
+	l.PopTo("b")
+	check(t, l, "a", "b", "c")
+	l.PopTo("c")
+	check(t, l, "a", "b")
+	l.PopTo("nowhere")
+	check(t, l)
+	l.PopTo("a")
+	check(t, l)
+}
+
+func TestReplace(t *testing.T) {
+	l := of("a", "b", "c")
+	l.Replace("b", "x")
+	l.Replace("a", "y")
+	l.Replace("nowhere", "z")
+	check(t, l, "y", "x", "c")
+}
+
+func TestPutBehind(t *testing.T) {
+	l := of("a", "b")
+	l.PutBehind("a", "x")
+	l.PutBehind("b", "y")
+	l.PutBehind("nowhere", "z")
+	check(t, l, "a", "x", "b", "y")
+}
+
+func TestAhead(t *testing.T) {
+	l := of("a", "b", "c", "d")
+	for x, want := range map[string][]string{"d": {"c", "b", "a"}, "b": {"a"}, "a": nil, "nowhere": nil} {
+		if got := slices.Collect(l.Ahead(x)); !slices.Equal(got, want) {
+			t.Errorf("ahead of %q there are %q, want %q", x, got, want)
+		}
+	}
+}
+
+// What is gone over may be taken out or replaced.
+func TestAheadWhileItChanges(t *testing.T) {
+	l := of("a", "b", "c", "d", "e")
+	var got []string
+	for x := range l.Ahead("e") {
+		got = append(got, x)
+		if x == "c" {
+			l.Replace(x, "y")
+		} else {
+			l.Remove(x)
+		}
+	}
+	if !slices.Equal(got, []string{"d", "c", "b", "a"}) {
+		t.Errorf("%q were gone over", got)
+	}
+	check(t, l, "y", "e")
+}
+
 func TestUpEndsWhenItIsTold(t *testing.T) {
 	l := of("a", "b", "c")
 	for want := 1; want <= 3; want++ {

@@ -65,3 +65,8 @@ func (a Ask) Or(other Ask) Ask {
 func (a Ask) But(other Ask) Ask {
 	return func(name string) bool { return a(name) && !other(name) }
 }
+
+// Not makes the question whether another says false.
+func Not(a Ask) Ask {
+	return func(name string) bool { return !a(name) }
+}

@@ -56,6 +56,8 @@ func TestQuestions(t *testing.T) {
 		{c.Are(Implied).But(Is("p")), "dd dt li optgroup option"},
 		{c.Are(Implied).But(Is("")), "dd dt li optgroup option p"},
 		{c.Are(Void).But(c.Are(Special)), ""},
+		{c.Are(Bounds).But(Not(Is("td", "x"))), "td"},
+		{Not(c.Are(Special)).But(c.Are(Implied)), "HTML P a b em htm i nobr span u x"},
 		{c.Are(Bounds).Or(Is("button")).But(Is("html")), "button caption object table td th"},
 	} {
 		if got := heard(x.ask); got != x.want {

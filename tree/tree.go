@@ -17,6 +17,7 @@ type Node interface {
 type Element struct {
 	Name     string
 	Attrs    []api.Attribute
+	parent   *Element
 	children []Node
 }
 
@@ -58,6 +59,15 @@ func (e *Element) Has(name string) bool {
 	return slices.ContainsFunc(e.Attrs, func(a api.Attribute) bool { return a.Name == name })
 }
 
+// IsLike: the elements have the same name and attributes; in which order does not count.
+func (e *Element) IsLike(other *Element) bool {
+	return e.Name == other.Name && len(e.Attrs) == len(other.Attrs) &&
+		!slices.ContainsFunc(e.Attrs, func(a api.Attribute) bool { return !slices.Contains(other.Attrs, a) })
+}
+
+// Another makes an element like this one, that holds nothing and is nowhere.
+func (e *Element) Another() *Element { return &Element{Name: e.Name, Attrs: e.Attrs} }
+
 // Place is a place among an element's children: ahead of the one of that number, or behind all.
 type Place struct {
 	in *Element
@@ -67,8 +77,42 @@ type Place struct {
 // End is the place behind all that the element holds.
 func (e *Element) End() Place { return Place{e, len(e.children)} }
 
-// Put puts a node at the place.
-func (p Place) Put(n Node) { p.in.children = slices.Insert(p.in.children, p.at, n) }
+// Front is the place right ahead of the element, if it has a parent.
+func (e *Element) Front() (Place, bool) {
+	if e.parent == nil {
+		return Place{}, false
+	}
+	return Place{e.parent, e.parent.indexOf(e)}, true
+}
+
+func (e *Element) indexOf(child *Element) int {
+	return slices.IndexFunc(e.children, func(n Node) bool { return n == Node(child) })
+}
+
+// TakeOut takes the element away from where it is.
+func (e *Element) TakeOut() {
+	if e.parent != nil {
+		n := e.parent.indexOf(e)
+		e.parent.children = slices.Delete(e.parent.children, n, n+1)
+		e.parent = nil
+	}
+}
+
+// HandOver: all that the element holds is held by another from now on, behind what that one held.
+func (e *Element) HandOver(to *Element) {
+	for _, n := range e.children {
+		to.End().Put(n)
+	}
+	e.children = nil
+}
+
+// Put puts a node at the place. (An element that is elsewhere must be taken out first: the place may be told by what stands ahead of it.)
+func (p Place) Put(n Node) {
+	p.in.children = slices.Insert(p.in.children, p.at, n)
+	if e, ok := n.(*Element); ok {
+		e.parent = p.in
+	}
+}
 
 // PutChars: characters join the text right ahead of the place, or are a new text there.
 func (p Place) PutChars(s string) {

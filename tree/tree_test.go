@@ -49,6 +49,95 @@ func TestHas(t *testing.T) {
 	}
 }
 
+func TestIsLike(t *testing.T) {
+	of := func(name string, attrs ...api.Attribute) *Element { return &Element{Name: name, Attrs: attrs} }
+	x, y, z := api.Attribute{Name: "x", Value: "1"}, api.Attribute{Name: "y"}, api.Attribute{Name: "x", Value: "2"}
+	for _, c := range []struct {
+		a, b *Element
+		want bool
+	}{
+		{of("b"), of("b"), true},
+		{of("b"), of("i"), false},
+		{of("b", x), of("b", x), true},
+		{of("b", x), of("b"), false},
+		{of("b", x), of("b", z), false},
+		{of("b", x), of("b", y), false},
+		{of("b", x, y), of("b", y, x), true},
+		{of("b", x, y), of("b", z, y), false},
+		{of("b", x, y), of("b", x), false},
+		{of("b", x, y), of("i", x, y), false},
+	} {
+		if c.a.IsLike(c.b) != c.want || c.b.IsLike(c.a) != c.want {
+			t.Errorf("P17: %v is like %v: want %v", c.a, c.b, c.want)
+		}
+	}
+}
+
+func TestAnother(t *testing.T) {
+	e := small().children[1].(*Element)
+	a := e.Another()
+	if a == e || !a.IsLike(e) || len(a.children) != 0 {
+		t.Errorf("P17: another %v is %v", e, a)
+	}
+	if _, ok := a.Front(); ok {
+		t.Errorf("P17: another is somewhere")
+	}
+}
+
+func TestFront(t *testing.T) {
+	doc := small()
+	e := doc.children[1].(*Element)
+	front, ok := e.Front()
+	if !ok {
+		t.Fatalf("P11: no place ahead of a child")
+	}
+	front.PutChars("x")
+	front, _ = e.Front()
+	front.PutChars("y")
+	front.Put(&Element{Name: "hr"})
+	if got, want := doc.Written(), `<!DOCTYPE d>xy<hr><e a="1" b="2">t<br><!--c--></e>u`; got != want {
+		t.Errorf("P11: written is %q, want %q", got, want)
+	}
+	if _, ok := doc.Front(); ok {
+		t.Errorf("P11: there is a place ahead of what has no parent")
+	}
+}
+
+func TestTakeOut(t *testing.T) {
+	doc := small()
+	e := doc.children[1].(*Element)
+	br := e.children[1].(*Element)
+	br.TakeOut()
+	br.TakeOut()
+	doc.End().Put(br)
+	e.TakeOut()
+	br.End().Put(e)
+	if _, ok := e.Front(); !ok || doc.Written() != "<!DOCTYPE d>u<br>" || br.Written() != `<e a="1" b="2">t<!--c--></e>` {
+		t.Errorf("P19: written are %q, %q", doc.Written(), br.Written())
+	}
+	doc.TakeOut()
+}
+
+func TestHandOver(t *testing.T) {
+	doc := small()
+	e := doc.children[1].(*Element)
+	br := e.children[1].(*Element)
+	to := &Element{Name: "x"}
+	to.End().PutChars("s")
+	e.HandOver(to)
+	e.End().Put(to)
+	if got, want := doc.Written(), `<!DOCTYPE d><e a="1" b="2"><x>st<br><!--c--></x></e>u`; got != want {
+		t.Errorf("P19: written is %q, want %q", got, want)
+	}
+	if l := slices.Collect(to.Items); len(l) != 5 || l[0].S != "s" || l[1].S != "t" {
+		t.Errorf("P27: texts that came to lie side by side are told as %v", l)
+	}
+	br.TakeOut()
+	if got, want := to.Written(), "st<!--c-->"; got != want {
+		t.Errorf("P19: written is %q, want %q", got, want)
+	}
+}
+
 func TestItems(t *testing.T) {
 	doc := small()
 	want := []api.Item{{Kind: api.Doctype, S: "d"}, {Kind: api.Enter, S: "e"}, {Kind: api.Attr, S: "a", T: "1"}, {Kind: api.Attr, S: "b", T: "2"}, {Kind: api.Text, S: "t"},
