@@ -6,7 +6,7 @@ import "htmltree/tree"
 
 const (
 	rounds = 8 // in which one end tag is at work, at the most
-	remade = 3 // active elements that one round makes anew, at the most
+	remade = 3 // elements ahead of BLOCK that one round may make anew, at the most
 )
 
 // adopt is the adoption agency for a name.
@@ -63,7 +63,7 @@ func (b *Builder) blockBehind(f *tree.Element) *tree.Element {
 func (b *Builder) moveOut(f, block *tree.Element) {
 	last, mark := b.remake(f, block)
 	last.TakeOut()
-	b.placeFor(b.aheadOf(f)).Put(last)
+	b.placeFor(b.open.RightAhead(f)).Put(last)
 
 	like := f.Another()
 	block.HandOver(like)
@@ -72,13 +72,6 @@ func (b *Builder) moveOut(f, block *tree.Element) {
 	b.active.Remove(f)
 	b.open.Remove(f)
 	b.open.PutBehind(block, like)
-}
-
-func (b *Builder) aheadOf(f *tree.Element) *tree.Element {
-	for e := range b.open.Ahead(f) {
-		return e
-	}
-	return nil
 }
 
 // remake makes what is open between f and block anew, around block, as far as it is active. It tells the outermost of these, and behind which entry of the active list the one like f belongs: behind f itself, which goes, or behind the innermost of these.

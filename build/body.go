@@ -143,7 +143,7 @@ func (b *Builder) endTagsInBody() byName {
 		on("br", b.endBreak).
 		on("form", b.endForm).
 		on("a b i nobr", b.endFormatting).
-		on("object", ends(b.endObject))
+		on("object", b.endObject)
 }
 
 func (b *Builder) endBody(token.Token) {

@@ -104,13 +104,8 @@ func (b *Builder) startObject(t token.Token) {
 	b.addMarker()
 }
 
-func (b *Builder) endObject() bool { return b.endMarked(names.Is("object"), b.bounds) }
-
-// endMarked: an element that brought a marker with it ends, if it is in the scope that has these bounds. It tells whether it did.
-func (b *Builder) endMarked(such, bounds names.Ask) bool {
-	if !b.close(such, bounds) {
-		return false
+func (b *Builder) endObject(token.Token) {
+	if b.close(names.Is("object"), b.bounds) {
+		b.unmark()
 	}
-	b.unmark()
-	return true
 }

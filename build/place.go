@@ -22,19 +22,19 @@ func (b *Builder) placeFor(e *tree.Element) tree.Place {
 // tableParts are the elements in which nothing but a table's own parts has a place.
 func tableParts() names.Ask { return names.Is("table", "tbody", "tfoot", "thead", "tr") }
 
-// fosterPlace is the place for what has none in a table.
+// fosterPlace is the place for what has none in a table: ahead of the table that was opened last.
 func (b *Builder) fosterPlace() tree.Place {
-	n := b.open.Len() - 1
-	for n > 0 && b.open.At(n).Name != "table" {
-		n--
+	first := b.open.At(0)
+	for e := range b.open.Up() {
+		if e.Name != "table" || e == first {
+			continue
+		}
+		if front, ok := e.Front(); ok {
+			return front
+		}
+		return b.open.RightAhead(e).End()
 	}
-	if n <= 0 {
-		return b.open.At(0).End()
-	}
-	if front, ok := b.open.At(n).Front(); ok {
-		return front
-	}
-	return b.open.At(n - 1).End()
+	return first.End()
 }
 
 // foster takes a token as in body, with fostering on.

@@ -63,7 +63,7 @@ func (b *Builder) startHrInSelect(t token.Token) {
 }
 
 func (b *Builder) endOptgroupInSelect(token.Token) {
-	if b.current(option()) && b.open.At(b.open.Len()-2).Name == "optgroup" {
+	if b.current(option()) && optgroup()(b.open.RightAhead(b.open.Last()).Name) {
 		b.open.Pop()
 	}
 	b.popIf(optgroup())

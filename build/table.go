@@ -8,7 +8,7 @@ import (
 	"htmltree/token"
 )
 
-// The modes of tables (P20 to P22).
+// The modes of tables (P20 to P22), and how the mode is reset (P24).
 
 func (b *Builder) inTableRules() rules {
 	return rules{
@@ -17,10 +17,10 @@ func (b *Builder) inTableRules() rules {
 		doctype: nothing,
 		start: byName{}.
 			on("caption", b.startCaption).
-			on("colgroup", b.startColumnGroup).
-			on("col", b.impliedColumnGroup).
-			on("tbody tfoot thead", b.startTableBody).
-			on("td th tr", b.impliedTableBody).
+			on("colgroup", b.startsIn(table(), inColumnGroup)).
+			on("col", b.impliesIn(table(), "colgroup", inColumnGroup)).
+			on("tbody tfoot thead", b.startsIn(table(), inTableBody)).
+			on("td th tr", b.impliesIn(table(), "tbody", inTableBody)).
 			on("table", b.endsAhead(b.endTable)).
 			on("style", b.asIn(inHead)).
 			on("form", b.startFormInTable).
@@ -50,37 +50,31 @@ func (b *Builder) charInTable(t token.Token) {
 	b.take(t)
 }
 
+// startsIn makes the rule that a part of a table begins in such an element, and the mode is another.
+func (b *Builder) startsIn(such names.Ask, m mode) rule {
+	return func(t token.Token) {
+		b.clearTo(such)
+		b.insertTag(t)
+		b.mode = m
+	}
+}
+
+// impliesIn makes the rule that a part of a table of that name begins ahead of the token, which is taken again.
+func (b *Builder) impliesIn(such names.Ask, name string, m mode) rule {
+	return func(t token.Token) {
+		b.clearTo(such)
+		b.insertNamed(name)
+		b.mode = m
+		b.take(t)
+	}
+}
+
+// startCaption: the marker is there ahead of the caption.
 func (b *Builder) startCaption(t token.Token) {
 	b.clearTo(table())
 	b.addMarker()
 	b.insertTag(t)
 	b.mode = inCaption
-}
-
-func (b *Builder) startColumnGroup(t token.Token) {
-	b.clearTo(table())
-	b.insertTag(t)
-	b.mode = inColumnGroup
-}
-
-func (b *Builder) impliedColumnGroup(t token.Token) {
-	b.clearTo(table())
-	b.insertNamed("colgroup")
-	b.mode = inColumnGroup
-	b.take(t)
-}
-
-func (b *Builder) startTableBody(t token.Token) {
-	b.clearTo(table())
-	b.insertTag(t)
-	b.mode = inTableBody
-}
-
-func (b *Builder) impliedTableBody(t token.Token) {
-	b.clearTo(table())
-	b.insertNamed("tbody")
-	b.mode = inTableBody
-	b.take(t)
 }
 
 func (b *Builder) startFormInTable(t token.Token) {
@@ -153,13 +147,7 @@ func (b *Builder) inCaptionRules() rules {
 	}
 }
 
-func (b *Builder) endCaption() bool {
-	if !b.endMarked(names.Is("caption"), tableBounds()) {
-		return false
-	}
-	b.mode = inTable
-	return true
-}
+func (b *Builder) endCaption() bool { return b.endMarkedPart(names.Is("caption"), inTable) }
 
 func (b *Builder) inColumnGroupRules() rules {
 	return rules{
@@ -185,8 +173,8 @@ func (b *Builder) endColumnGroup() bool {
 func (b *Builder) inTableBodyRules() rules {
 	return rules{
 		start: byName{}.
-			on("tr", b.startRow).
-			on("td th", b.impliedRow).
+			on("tr", b.startsIn(tableBodies(), inRow)).
+			on("td th", b.impliesIn(tableBodies(), "tr", inRow)).
 			on("caption col colgroup tbody tfoot thead", b.endsAhead(b.endTableBody)),
 		end: byName{}.
 			on("tbody tfoot thead", b.ifInTable(ends(b.endTableBody))).
@@ -196,29 +184,23 @@ func (b *Builder) inTableBodyRules() rules {
 	}
 }
 
-func (b *Builder) startRow(t token.Token) {
-	b.clearTo(tableBodies())
-	b.insertTag(t)
-	b.mode = inRow
-}
-
-func (b *Builder) impliedRow(t token.Token) {
-	b.clearTo(tableBodies())
-	b.insertNamed("tr")
-	b.mode = inRow
-	b.take(t)
-}
-
 func (b *Builder) endTableBody() bool { return b.endPart(tableBodies(), inTable) }
 
 // endPart: such a part of a table ends, if it is in table scope, and the mode is another. It tells whether it did.
 func (b *Builder) endPart(such names.Ask, m mode) bool {
-	if !b.inScope(such, tableBounds()) {
+	if !b.close(such, tableBounds()) {
 		return false
 	}
-	b.clearTo(such)
-	b.open.Pop()
 	b.mode = m
+	return true
+}
+
+// endMarkedPart: likewise one that brought a marker with it.
+func (b *Builder) endMarkedPart(such names.Ask, m mode) bool {
+	if !b.endPart(such, m) {
+		return false
+	}
+	b.unmark()
 	return true
 }
 
@@ -237,9 +219,7 @@ func (b *Builder) inRowRules() rules {
 }
 
 func (b *Builder) startCell(t token.Token) {
-	b.clearTo(row())
-	b.insertTag(t)
-	b.mode = inCell
+	b.startsIn(row(), inCell)(t)
 	b.addMarker()
 }
 
@@ -256,15 +236,9 @@ func (b *Builder) inCellRules() rules {
 	}
 }
 
-func (b *Builder) endCell() bool {
-	if !b.endMarked(cells(), tableBounds()) {
-		return false
-	}
-	b.mode = inRow
-	return true
-}
+func (b *Builder) endCell() bool { return b.endMarkedPart(cells(), inRow) }
 
-// reset: the mode is that of the innermost part of a table that is open (P24).
+// reset: the mode is that of the innermost part of a table that is open; in body, if none is.
 func (b *Builder) reset() {
 	b.mode = inBody
 	for e := range b.open.Up() {

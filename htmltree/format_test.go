@@ -131,6 +131,8 @@ func TestP19NotActive(t *testing.T) {
 		{"<b><b><b><b></b></b></b><span>x</b>y", "<b><b><b><b></b></b></b><span>x</span></b>y"},
 		{"<b><p><b><b><b></b></b></b><span>x</b>y", "<b><p><b><b><b></b></b></b><span>xy</span></p></b>"},
 		{"<b><b><b><b></b></b></b><div>x</b>y", "<b><b><b><b></b></b></b><div>xy</div></b>"},
+		{"<b><b><b><b><b></b></b></b><span>x</b>y", "<b><b><b><b><b></b></b></b><span>x</span></b>y</b>"},
+		{"<p><b><b>x</p></b>y", "<p><b><b>x</b></b></p><b>y</b>"},
 	})
 }
 

@@ -23,6 +23,21 @@ func TestP11Fostering(t *testing.T) {
 	})
 }
 
+func TestP11TableScope(t *testing.T) {
+	checkBodies(t, "P11", []tree{
+		{"<table><tr><td><table><tfoot><tr></tbody><td>x", "<table><tbody><tr><td><table><tfoot><tr><td>x</td></tr></tfoot></table></td></tr></tbody></table>"},
+		{"<table><tbody><td><table><tfoot></tbody><tr>x", "<table><tbody><tr><td>x<table><tfoot><tr></tr></tfoot></table></td></tr></tbody></table>"},
+		{"<table><tfoot><td><table><td></tfoot>x", "<table><tfoot><tr><td><table><tbody><tr><td>x</td></tr></tbody></table></td></tr></tfoot></table>"},
+		{"<table><tfoot><td><table><td><select></tfoot>x", "<table><tfoot><tr><td><table><tbody><tr><td><select>x</select></td></tr></tbody></table></td></tr></tfoot></table>"},
+		{"<table><caption><table><td><select></caption>x", "<table><caption><table><tbody><tr><td><select>x</select></td></tr></tbody></table></caption></table>"},
+		{"<table><th><table><td></th>x", "<table><tbody><tr><th><table><tbody><tr><td>x</td></tr></tbody></table></th></tr></tbody></table>"},
+		{"<table><th><table><td><select></th>x", "<table><tbody><tr><th><table><tbody><tr><td><select>x</select></td></tr></tbody></table></th></tr></tbody></table>"},
+		{"<table><caption><object></caption>x", "x<table><caption><object></object></caption></table>"},
+		{"<table><td><object></td>x", "x<table><tbody><tr><td><object></object></td></tr></tbody></table>"},
+		{"<table><td><object><ul><button></tr>x", "x<table><tbody><tr><td><object><ul><button></button></ul></object></td></tr></tbody></table>"},
+	})
+}
+
 func TestP20Characters(t *testing.T) {
 	checkBodies(t, "P20", []tree{
 		{"<table> \n\t\f<tr> <td> ", "<table> \n\t\f<tbody><tr> <td> </td></tr></tbody></table>"},

@@ -214,6 +214,14 @@ func TestP12AfterHead(t *testing.T) {
 	})
 }
 
+func TestP12BodyByItsTag(t *testing.T) {
+	checkTrees(t, "P12", []tree{
+		{"<body a></body><!--b-->", "<html><head></head><body a=\"\"></body><!--b--></html>"},
+		{"<body a><td>b<caption>c", "<html><head></head><body a=\"\">bc</body></html>"},
+		{"<body a><select>b<td>c", "<html><head></head><body a=\"\"><select>bc</select></body></html>"},
+	})
+}
+
 func TestP13LineFeeds(t *testing.T) {
 	checkBodies(t, "P13", []tree{
 		{"<pre>\nx", "<pre>x</pre>"},

@@ -27,6 +27,9 @@ func (l *List[T]) Last() T { return l.At(len(l.entries) - 1) }
 // Has: x is an entry.
 func (l *List[T]) Has(x T) bool { return slices.Contains(l.entries, x) }
 
+// RightAhead tells the entry ahead of x.
+func (l *List[T]) RightAhead(x T) T { return l.At(slices.Index(l.entries, x) - 1) }
+
 // Push puts an entry last.
 func (l *List[T]) Push(x T) { l.entries = append(l.entries, x) }
 

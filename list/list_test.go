@@ -81,6 +81,15 @@ func TestHas(t *testing.T) {
 	}
 }
 
+func TestRightAhead(t *testing.T) {
+	l := of("a", "b", "c")
+	for x, want := range map[string]string{"c": "b", "b": "a", "a": "", "nowhere": ""} {
+		if got := l.RightAhead(x); got != want {
+			t.Errorf("ahead of %q is %q, want %q", x, got, want)
+		}
+	}
+}
+
 func TestPopTo(t *testing.T) {
 	l := of("a", "b", "c", "b", "d")
 	l.PopTo("b")
