@@ -126,14 +126,34 @@ func (p *Parser) Text() string {
 	return p.doc.Written()
 }
 
-// Visit tells a visitor what is met (P29).
-func (p *Parser) Visit(v api.Visitor) {}
+// Visit tells a visitor what is met (P29). (A nil one can't be told anything.)
+func (p *Parser) Visit(v api.Visitor) {
+	if p.hasTree() && v != nil {
+		p.doc.VisitChildren(v)
+	}
+}
 
 // Names counts elements by their names (P30).
-func (p *Parser) Names() map[string]int { return map[string]int{} }
+func (p *Parser) Names() map[string]int {
+	counts := map[string]int{}
+	for x := range p.Items() {
+		if x.Kind == api.Enter {
+			counts[x.S]++
+		}
+	}
+	return counts
+}
 
-// Collect tells of the items those that take takes, as it turns them (P30).
-func Collect[T any](p *Parser, take func(api.Item) (T, bool)) []T { return nil }
-
-// Many reads each text by a parser of its own (P31).
-func Many(texts []string, depth int, forms int, attrs int) ([]string, []error) { return nil, nil }
+// Collect tells of the items those that take takes, as it turns them (P30). (A nil one takes none.)
+func Collect[T any](p *Parser, take func(api.Item) (T, bool)) []T {
+	if take == nil {
+		return nil
+	}
+	var l []T
+	for x := range p.Items() {
+		if y, taken := take(x); taken {
+			l = append(l, y)
+		}
+	}
+	return l
+}

@@ -50,11 +50,15 @@ func tellsNothing(t *testing.T, p *htmltree.Parser) {
 	if s := p.Text(); s != "" {
 		t.Errorf("P4: Text = %q", s)
 	}
-	p.Visit(nil)
+	v := &hearer{}
+	p.Visit(v)
+	if v.heard != nil {
+		t.Errorf("P4: Visit tells %v", v.heard)
+	}
 	if m := p.Names(); m == nil || len(m) != 0 {
 		t.Errorf("P2, P4: Names = %#v", m)
 	}
-	if l := htmltree.Collect(p, func(x api.Item) (int, bool) { return 0, true }); l != nil {
+	if l := htmltree.Collect(p, all); l != nil {
 		t.Errorf("P4: Collect = %v", l)
 	}
 }
@@ -329,15 +333,6 @@ func TestP4CloseAtALimit(t *testing.T) {
 			t.Errorf("P4: Write = %d, %v", n, err)
 		}
 		tellsNothing(t, p)
-	}
-	for text, at := range map[string]int{
-		"<p" + many(16) + ">": -1, "<p" + many(17) + ">": 0, "ab</p" + many(17) + " ": 2, "<p" + many(17): -1, "<p" + many(16) + many(16) + ">": -1,
-	} {
-		p := made(t, text, 16)
-		err := p.Close()
-		if at < 0 && err != nil || at >= 0 && (!errors.Is(err, api.ErrAttr) || err.(*api.Stop).At != at) {
-			t.Errorf("P4: Close of %q = %v, want a stop at %d", text, err, at)
-		}
 	}
 }
 

@@ -20,24 +20,147 @@ type stop struct {
 func checkStops(t *testing.T, l []stop) {
 	t.Helper()
 	for _, c := range l {
-		p, _ := htmltree.New(c.depth, c.forms, api.MaxAttr)
-		p.Write([]byte(c.text))
-		err := p.Close()
-		if c.err == api.OK {
-			if err != nil {
-				t.Errorf("P25: %q with %d, %d: %v", c.text, c.depth, c.forms, err)
-			}
-			continue
-		}
-		said, ok := err.(*api.Stop)
-		if !ok || *said != (api.Stop{Err: c.err, At: c.at}) {
-			t.Errorf("P25: %q with %d, %d: %v, want %v at %d", c.text, c.depth, c.forms, err, c.err, c.at)
-		}
-		if n, same := p.Stop(); n != c.at || same != err {
-			t.Errorf("P4: Stop of %q = %d, %v", c.text, n, same)
-		}
-		tellsNothing(t, p)
+		checkStop(t, c.text, [3]int{c.depth, c.forms, api.MaxAttr}, c.err, c.at)
 	}
+}
+
+// checkStop holds a text under some limits against where its reading stops; with api.OK it does not.
+func checkStop(t *testing.T, text string, limits [3]int, e api.Errno, at int) {
+	t.Helper()
+	p, _ := htmltree.New(limits[0], limits[1], limits[2])
+	p.Write([]byte(text))
+	err := p.Close()
+	if e == api.OK {
+		if n, same := p.Stop(); err != nil || n != len(text) || same != nil || p.Text() == "" {
+			t.Errorf("P25: %q with %d: %v, and Stop = %d, %v", text, limits, err, n, same)
+		}
+		return
+	}
+	said, ok := err.(*api.Stop)
+	if !ok || *said != (api.Stop{Err: e, At: at}) {
+		t.Errorf("P25: %q with %d: %v, want %v at %d", text, limits, err, e, at)
+	}
+	if n, same := p.Stop(); n != at || same != err {
+		t.Errorf("P4: Stop of %q = %d, %v", text, n, same)
+	}
+	tellsNothing(t, p)
+}
+
+// attrStop is a text, the limit of attributes, and where the reading stops with ErrAttr; -1: it does not.
+type attrStop struct {
+	text  string
+	attrs int
+	at    int
+}
+
+func checkAttrStops(t *testing.T, l []attrStop) {
+	t.Helper()
+	for _, c := range l {
+		e := api.ErrAttr
+		if c.at < 0 {
+			e = api.OK
+		}
+		checkStop(t, c.text, [3]int{api.MaxDepth, api.MaxForm, c.attrs}, e, c.at)
+	}
+}
+
+func TestP25Attributes(t *testing.T) {
+	checkAttrStops(t, []attrStop{
+		{"<p a>x", 1, -1},
+		{"<p a b>x", 1, 0},
+		{"<p a b>x", 2, -1},
+		{"<p a><p a b>", 1, 5},
+		{"\r\n<p a\r\nb\r\nc>", 2, 2},
+		{"x</p a b>", 1, 1},
+		{"x</p a>", 1, -1},
+		{"<p" + many(16) + ">", 16, -1},
+		{"<p" + many(17) + ">", 16, 0},
+		{"ab</p" + many(17) + ">", 16, 2},
+		{"<p a=1 b=2 c=3>", 2, 0},
+		{"<p a='b c d' e=\"f g\">", 2, -1},
+		{"<p =a=b c>", 1, 0},
+		{"<p a = b>", 1, -1},
+	})
+}
+
+// An attribute of a name that the tag has is not counted, however it is written.
+func TestP25AttributesThatAreNotNew(t *testing.T) {
+	checkAttrStops(t, []attrStop{
+		{"<p a a a>x", 1, -1},
+		{"<p a A a=1>x", 1, -1},
+		{"<p \x00 \uFFFD>x", 1, -1},
+		{"<p a a b>x", 1, 0},
+		{"<p" + many(16) + many(16) + ">", 16, -1},
+		{"</p a a b a c>", 2, 0},
+	})
+}
+
+// A tag that is lost has the limit too, but for a name that the text's end ends.
+func TestP25AttributesOfLostTags(t *testing.T) {
+	checkAttrStops(t, []attrStop{
+		{"<p a b", 1, -1},
+		{"<p a bc", 1, -1},
+		{"</p a b", 1, -1},
+		{"<p a b ", 1, 0},
+		{"<p a b\r", 1, 0},
+		{"<p a b/", 1, 0},
+		{"<p a b=", 1, 0},
+		{"xy</p a b='", 1, 2},
+		{"<p" + many(17), 16, -1},
+		{"ab</p" + many(17) + " ", 16, 2},
+	})
+}
+
+// It does not count what becomes of the tag; what is no tag has no attributes.
+func TestP25AttributesOfTagsThatTellNothing(t *testing.T) {
+	checkAttrStops(t, []attrStop{
+		{"<tr a b>x", 1, 0},
+		{"<select><p a b>", 1, 8},
+		{"<table></td a b>", 1, 7},
+		{"<style></style a b>", 1, 7},
+		{"<title><p a b></title>", 1, -1},
+		{"<!p a b><?p a b><!--<p a b>--></ p a b>", 1, -1},
+		{"<!doctype a b c>", 1, -1},
+	})
+}
+
+func TestP25AttributesThatAreGiven(t *testing.T) {
+	checkAttrStops(t, []attrStop{
+		{"<html a b><html a b><html b a>", 2, -1},
+		{"<html a><html b><html c>", 2, 16},
+		{"<html a><html b c>", 2, 8},
+		{"<html a>x<html b>", 1, 9},
+		{"<html a b><p><html a b><html a c>", 2, 23},
+		{"<body a><body b><body a>", 2, -1},
+		{"<body a><body b><body c>", 2, 16},
+		{"x<body a b></body><body c>", 2, 18},
+		{"<html a b></html><html c>", 2, 17},
+		{"<html a><body b><html a><body b>", 1, -1},
+		{"<html" + many(16) + "><html" + many(16) + ">", 16, -1},
+		{"<html" + many(16) + "><html z>", 16, 38},
+		{"<p a b><p c d>", 2, -1},
+	})
+}
+
+func TestP25Depth(t *testing.T) {
+	checkStops(t, []stop{
+		{"", 4, 1, api.OK, 0},
+		{"<p><span>x", 4, 32, api.OK, 0},
+		{"<p><span>x<em>y", 4, 32, api.ErrDepth, 10},
+		{"<p><span><br>", 4, 32, api.ErrDepth, 9},
+		{"<p><span><br>", 5, 32, api.OK, 0},
+		{"<p><span></br>", 4, 32, api.ErrDepth, 9},
+		{"<span><em></p>", 4, 32, api.ErrDepth, 10},
+		{"<span><em></p>", 5, 32, api.OK, 0},
+		{"<p><p><p><p><p>", 4, 32, api.OK, 0},
+		{"<div><div><div>", 4, 32, api.ErrDepth, 10},
+		{"\r\n<p><span><textarea>x", 4, 32, api.ErrDepth, 11},
+		{"</head><title>x</title><meta>", 4, 32, api.OK, 0},
+		{"x<div><span><style>y", 4, 32, api.ErrDepth, 12},
+		{"x" + strings.Repeat("<q>", 62), 64, 32, api.OK, 0},
+		{"x" + strings.Repeat("<q>", 63), 64, 32, api.ErrDepth, 1 + 62*3},
+		{strings.Repeat("<q>", 300), 64, 32, api.ErrDepth, 62 * 3},
+	})
 }
 
 func TestP25ActiveElements(t *testing.T) {
@@ -87,6 +210,25 @@ func TestP25TheFirst(t *testing.T) {
 		{"<b><table><td>", 7, 1, api.ErrForm, 10},
 		{"<b><table><td>", 7, 2, api.OK, 0},
 	})
+}
+
+// A tag is read ahead of its being taken.
+func TestP25AttributesFirst(t *testing.T) {
+	for _, c := range []struct {
+		text  string
+		depth int
+		err   api.Errno
+		at    int
+	}{
+		{"<div><div><div a b>", 4, api.ErrAttr, 10},
+		{"<div><div><div><p a b>", 4, api.ErrDepth, 10},
+		{"<b a b><i>", 4, api.ErrAttr, 0},
+		{"<b><i a b>", 4, api.ErrAttr, 3},
+		{"<b><i><a b c>", 4, api.ErrForm, 3},
+		{"<table><b><tr>x<td a b>", 5, api.ErrAttr, 15},
+	} {
+		checkStop(t, c.text, [3]int{c.depth, 1, 1}, c.err, c.at)
+	}
 }
 
 func TestP25DepthOfTables(t *testing.T) {

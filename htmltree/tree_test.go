@@ -1,7 +1,6 @@
 package htmltree_test
 
 import (
-	"errors"
 	"slices"
 	"strings"
 	"testing"
@@ -469,71 +468,6 @@ func TestP16(t *testing.T) {
 		{"<p>a</html>\x00<!--b-->", "<html><head></head><body><p>a<!--b--></p></body></html>"},
 		{"<!--a--></html><!--b-->", "<!--a--><html><head></head><body></body></html><!--b-->"},
 	})
-}
-
-func TestP25Depth(t *testing.T) {
-	for _, c := range []struct {
-		text  string
-		depth int
-		at    int // -1: no limit is passed
-	}{
-		{"<p><span>x", 4, -1},
-		{"<p><span>x<em>y", 4, 10},
-		{"<p><span><br>", 4, 9},
-		{"<p><span><br>", 5, -1},
-		{"<p><span></br>", 4, 9},
-		{"<span><em></p>", 4, 10},
-		{"<span><em></p>", 5, -1},
-		{"<p><p><p><p><p>", 4, -1},
-		{"<div><div><div>", 4, 10},
-		{"\r\n<p><span><textarea>x", 4, 11},
-		{"</head><title>x</title><meta>", 4, -1},
-		{"x<div><span><style>y", 4, 12},
-		{"x" + strings.Repeat("<q>", 62), 64, -1},
-		{"x" + strings.Repeat("<q>", 63), 64, 1 + 62*3},
-		{strings.Repeat("<q>", 300), 64, 62 * 3},
-	} {
-		p, _ := htmltree.New(c.depth, 32, 16)
-		p.Write([]byte(c.text))
-		err := p.Close()
-		if c.at < 0 {
-			if err != nil {
-				t.Errorf("P25: %q with %d: %v", c.text, c.depth, err)
-			}
-			continue
-		}
-		stop, ok := err.(*api.Stop)
-		if !ok || stop.Err != api.ErrDepth || stop.At != c.at {
-			t.Errorf("P25: %q with %d: %v, want ErrDepth at %d", c.text, c.depth, err, c.at)
-		}
-		if n, same := p.Stop(); n != c.at || same != err {
-			t.Errorf("P4: Stop of %q = %d, %v", c.text, n, same)
-		}
-		tellsNothing(t, p)
-	}
-}
-
-func TestP25AttributesThatAreGiven(t *testing.T) {
-	for _, c := range []struct {
-		text string
-		at   int // -1: no limit is passed
-	}{
-		{"<html a b><html a b><html b a>", -1},
-		{"<html a><html b><html c>", 16},
-		{"<html a b><p><html a b><html a c>", 23},
-		{"<body a><body b><body a>", -1},
-		{"<body a><body b><body c>", 16},
-		{"x<body a b></body><body c>", 18},
-		{"<html a b></html><html c>", 17},
-		{"<p a b><p c d>", -1},
-	} {
-		p := made(t, c.text, 2)
-		err := p.Close()
-		var stop *api.Stop
-		if c.at < 0 && err != nil || c.at >= 0 && (!errors.As(err, &stop) || stop.Err != api.ErrAttr || stop.At != c.at) {
-			t.Errorf("P25: %q: %v, want ErrAttr at %d", c.text, err, c.at)
-		}
-	}
 }
 
 // shown is a text with an item of each kind, and its items.

@@ -1,4 +1,4 @@
-// Package tree: the nodes of a document, and what is told of them (P11, P27, P28).
+// Package tree: the nodes of a document, and what is told of them (P11, P27 to P29).
 package tree
 
 import (
